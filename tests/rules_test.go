@@ -3,6 +3,7 @@ package tests
 import (
 	"fmt"
 	"math"
+	"slices"
 	"strings"
 	"sync"
 	"testing"
@@ -64,7 +65,10 @@ func textCalls(texts []string) []call {
 	return list
 }
 
-func allCalls(texts []string) []call { return append(numberCalls(), textCalls(texts)...) }
+// allCalls are the calls of all chapters that are built.
+func allCalls(texts []string) []call {
+	return slices.Concat(numberCalls(), textCalls(texts), memoryCalls(someMemories(), memoryTexts()))
+}
 
 func answersOf(list []call) []string {
 	answers := make([]string, len(list))
