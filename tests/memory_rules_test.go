@@ -79,13 +79,7 @@ func TestAlikeMemoriesHaveAlikeAnswers(t *testing.T) {
 	for i, m := range memories {
 		others[i] = elsewhere(m)
 	}
-	list := memoryCalls(memories, texts)
-	answers, otherAnswers := answersOf(list), answersOf(memoryCalls(others, texts))
-	for i := range answers {
-		if answers[i] != otherAnswers[i] {
-			t.Fatalf("%s: %.60q and %.60q", list[i].name, answers[i], otherAnswers[i])
-		}
-	}
+	checkAlike(t, memoryCalls(memories, texts), memoryCalls(others, texts))
 }
 
 // TestMemoriesStay holds for P1: no call changes a memory that it is given, nor what stands behind the end of its list.

@@ -67,7 +67,7 @@ func textCalls(texts []string) []call {
 
 // allCalls are the calls of all chapters that are built.
 func allCalls(texts []string) []call {
-	return slices.Concat(numberCalls(), textCalls(texts), memoryCalls(someMemories(), memoryTexts()))
+	return slices.Concat(numberCalls(), textCalls(texts), memoryCalls(someMemories(), memoryTexts()), optabCalls(optabTexts()))
 }
 
 func answersOf(list []call) []string {
@@ -102,20 +102,29 @@ func TestAnswersHangOnArgumentsAlone(t *testing.T) {
 	}
 }
 
-// TestAlikeArgumentsHaveAlikeAnswers holds for P1: it hands in texts that are alike but lie elsewhere, within longer ones.
-func TestAlikeArgumentsHaveAlikeAnswers(t *testing.T) {
-	texts := anyTexts()
+// withinLonger are texts that are alike but lie elsewhere, within longer ones.
+func withinLonger(texts []string) []string {
 	copies := make([]string, len(texts))
 	for i, s := range texts {
 		copies[i] = ("<<<" + s + ">>>")[3 : 3+len(s)]
 	}
-	list := textCalls(texts)
-	answers, others := answersOf(list), answersOf(textCalls(copies))
+	return copies
+}
+
+// checkAlike makes the calls of two lists, whose arguments are alike one by one.
+func checkAlike(t *testing.T, list, others []call) {
+	answers, otherAnswers := answersOf(list), answersOf(others)
 	for i := range answers {
-		if answers[i] != others[i] {
-			t.Fatalf("%s: %.60q and %.60q", list[i].name, answers[i], others[i])
+		if answers[i] != otherAnswers[i] {
+			t.Fatalf("%s: %.60q and %.60q", list[i].name, answers[i], otherAnswers[i])
 		}
 	}
+}
+
+// TestAlikeArgumentsHaveAlikeAnswers holds for P1.
+func TestAlikeArgumentsHaveAlikeAnswers(t *testing.T) {
+	texts := anyTexts()
+	checkAlike(t, textCalls(texts), textCalls(withinLonger(texts)))
 }
 
 // TestArgumentsStay holds for P1: no call changes a text that it is given.
