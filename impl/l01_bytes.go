@@ -45,6 +45,9 @@ type sized interface {
 // cut keeps as much of v as a T holds.
 func cut[T sized](v int) int { return int(T(v)) }
 
+// fits tells whether a T holds v.
+func fits[T sized](v int) bool { return v == cut[T](v) }
+
 func noSize(size int) error { return boundError{"size", size, errRange} }
 
 func checkSize(size int) error {

@@ -47,15 +47,8 @@ func optabCalls(texts []string) []call {
 	return list
 }
 
-// TestAlikeNamesHaveAlikeAnswers holds for P1: it hands in names that are alike but lie within longer texts, and looks that these stay.
-func TestAlikeNamesHaveAlikeAnswers(t *testing.T) {
-	texts, want := optabTexts(), optabTexts()
-	copies := withinLonger(texts)
-	checkAlike(t, nameCalls(texts), nameCalls(copies))
-	if !slices.Equal(texts, want) || !slices.Equal(copies, want) {
-		t.Error("a name is changed")
-	}
-}
+// TestAlikeNamesHaveAlikeAnswers holds for P1.
+func TestAlikeNamesHaveAlikeAnswers(t *testing.T) { checkAlikeTexts(t, optabTexts, nameCalls) }
 
 // TestAllElseIsZeroInTheTables holds for rule 5: beside a code other than 0 there is nothing, and each code is one that chapter 4 names.
 func TestAllElseIsZeroInTheTables(t *testing.T) {

@@ -67,7 +67,7 @@ func textCalls(texts []string) []call {
 
 // allCalls are the calls of all chapters that are built.
 func allCalls(texts []string) []call {
-	return slices.Concat(numberCalls(), textCalls(texts), memoryCalls(someMemories(), memoryTexts()), optabCalls(optabTexts()), decodeCalls(decodeTexts()))
+	return slices.Concat(numberCalls(), textCalls(texts), memoryCalls(someMemories(), memoryTexts()), optabCalls(optabTexts()), decodeCalls(decodeTexts()), encodeCalls(decodeTexts()))
 }
 
 func answersOf(list []call) []string {
@@ -121,22 +121,19 @@ func checkAlike(t *testing.T, list, others []call) {
 	}
 }
 
-// TestAlikeArgumentsHaveAlikeAnswers holds for P1.
-func TestAlikeArgumentsHaveAlikeAnswers(t *testing.T) {
-	texts := anyTexts()
-	checkAlike(t, textCalls(texts), textCalls(withinLonger(texts)))
-}
-
-// TestArgumentsStay holds for P1: no call changes a text that it is given.
-func TestArgumentsStay(t *testing.T) {
-	texts, want := anyTexts(), anyTexts()
-	answersOf(textCalls(texts))
-	for i := range texts {
-		if texts[i] != want[i] {
-			t.Errorf("text %d is changed", i)
-		}
+// checkAlikeTexts makes the calls of texts, and of texts that are alike but lie within longer ones, and looks that all of them stay.
+func checkAlikeTexts(t *testing.T, textsOf func() []string, callsOf func([]string) []call) {
+	t.Helper()
+	texts, want := textsOf(), textsOf()
+	copies := withinLonger(texts)
+	checkAlike(t, callsOf(texts), callsOf(copies))
+	if !slices.Equal(texts, want) || !slices.Equal(copies, want) {
+		t.Error("a text is changed")
 	}
 }
+
+// TestAlikeArgumentsHaveAlikeAnswers holds for P1.
+func TestAlikeArgumentsHaveAlikeAnswers(t *testing.T) { checkAlikeTexts(t, anyTexts, textCalls) }
 
 // TestAllElseIsZero holds for rule 5: beside a code other than 0 there is nothing.
 func TestAllElseIsZero(t *testing.T) {
