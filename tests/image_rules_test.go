@@ -60,7 +60,7 @@ func elfCalls(texts []string) []call {
 	return list
 }
 
-// imageCalls are the calls of chapter 11 that take one of these images, or one and the first of others.
+// imageCalls are the calls of chapter 11 that take one of these images, or one of them and one of others.
 func imageCalls(images, others []impl.Image) []call {
 	var list []call
 	add := func(name string, make func() string) { list = append(list, call{name, make}) }
