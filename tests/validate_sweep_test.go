@@ -170,8 +170,12 @@ func (d *drawing) aim() {
 
 // drawn is code of so many bundles, or one more, at a place where it may stand.
 func drawn(random *rand.Rand, plain []impl.Instr, bundles int) *drawing {
-	d := &drawing{random: random, plain: plain, size: 32 * bundles}
-	d.at = 16896 + 32*random.Intn(96-bundles)
+	return drawnAt(random, plain, bundles, 16896+32*random.Intn(96-bundles))
+}
+
+// drawnAt is code of so many bundles, or one more, for that place.
+func drawnAt(random *rand.Rand, plain []impl.Instr, bundles, at int) *drawing {
+	d := &drawing{random: random, plain: plain, size: 32 * bundles, at: at}
 	for len(d.text) < d.size {
 		d.draw()
 	}
