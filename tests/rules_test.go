@@ -67,7 +67,7 @@ func textCalls(texts []string) []call {
 
 // allCalls are the calls of all chapters that are built.
 func allCalls(texts []string) []call {
-	return slices.Concat(numberCalls(), textCalls(texts), memoryCalls(someMemories(), memoryTexts()), optabCalls(optabTexts()), decodeCalls(decodeTexts()), encodeCalls(decodeTexts()), flagsCalls(), cpuCalls(), effectsCalls(), validateCalls(validateTexts()), allImageCalls(), loadCalls(), serviceCalls())
+	return slices.Concat(numberCalls(), textCalls(texts), memoryCalls(someMemories(), memoryTexts()), optabCalls(optabTexts()), decodeCalls(decodeTexts()), encodeCalls(decodeTexts()), flagsCalls(), cpuCalls(), effectsCalls(), validateCalls(validateTexts()), allImageCalls(), loadCalls(), serviceCalls(), runCalls())
 }
 
 func answersOf(list []call) []string {

@@ -48,6 +48,7 @@ type drawing struct {
 	text   string
 	told   impl.Report
 	goers  []int // where the jumps of numbers end, one by one
+	lively bool  // few hlts stand in it, and most of what it does goes well
 }
 
 // plainInstrs are those that no rule has anything against, wherever they stand.
@@ -74,7 +75,11 @@ func (d *drawing) place(text string, inner bool) {
 
 func (d *drawing) fill(n int) {
 	for range n {
-		d.place([2]string{nop, hlt}[d.random.Intn(2)], false)
+		piece := [2]string{nop, hlt}[d.random.Intn(2)]
+		if d.lively {
+			piece = nop
+		}
+		d.place(piece, false)
 	}
 }
 
@@ -179,6 +184,12 @@ func drawnAt(random *rand.Rand, plain []impl.Instr, bundles, at int) *drawing {
 	for len(d.text) < d.size {
 		d.draw()
 	}
+	d.end()
+	return d
+}
+
+// end has a jump or a hlt as the last one, and lays down where the jumps go.
+func (d *drawing) end() {
 	if last := d.text[d.told.Starts[len(d.told.Starts)-1]:]; last[0] != 0xe9 && last != hlt {
 		d.size += 32
 		for len(d.text) < d.size {
@@ -186,7 +197,6 @@ func drawnAt(random *rand.Rand, plain []impl.Instr, bundles, at int) *drawing {
 		}
 	}
 	d.aim()
-	return d
 }
 
 // TestDrawnCode holds for P9: code that is drawn by the rules is taken, and told as it was drawn.
