@@ -100,18 +100,6 @@ func runCalls() []call {
 	return slices.Concat(runBoxCalls(runBoxes()), breachCalls(breachBoxes(), someLoads()), insideCalls())
 }
 
-// checkBoxStays makes calls of a box, and of one that is alike but lies elsewhere, and looks that both stay, and what stands behind their lists.
-func checkBoxStays(t *testing.T, b, want impl.Box, callsOf func(b impl.Box) []call) {
-	t.Helper()
-	copied := b
-	copied.Memory, copied.Input, copied.Output = elsewhere(b.Memory), withinLonger([]string{b.Input})[0], withinLonger([]string{b.Output})[0]
-	behind := copied.Memory.Pages[:len(b.Memory.Pages)+1]
-	checkAlike(t, callsOf(b), callsOf(copied))
-	if !likeBox(b, want) || !likeBox(copied, want) || behind[len(behind)-1] != page(2048, 2) {
-		t.Errorf("a box is changed: %s, want %s", toldBox(b), toldBox(want))
-	}
-}
-
 // TestRunBoxesStay holds for P1: no call changes a box, nor what stands behind its list of pages, and none asks where it lies.
 func TestRunBoxesStay(t *testing.T) {
 	boxes, wants := runBoxes(), runBoxes()
@@ -149,31 +137,11 @@ func ranBoxes(b impl.Box) []impl.Box {
 	return list
 }
 
-// TestRunsOfBoxesShareNothing holds for P1 and rule 3: what is written into the pages of one answer shows neither in the box that was handed in nor in another answer, of a box that is answered as it was, too.
+// TestRunsOfBoxesShareNothing holds for P1 and rule 3 of steps and runs, of a box that is answered as it was, too.
 func TestRunsOfBoxesShareNothing(t *testing.T) {
 	for _, given := range runBoxes() {
-		if !boxRight(given) || len(given.Memory.Pages) == 0 {
-			continue
-		}
-		b := given
-		all := append(slices.Clone(given.Memory.Pages), page(65024, 3), page(65280, 3))
-		before := slices.Clone(all)
-		b.Memory.Pages = all[:len(given.Memory.Pages)]
-		wants := ranBoxes(given)
-		for which := range wants {
-			kept, spoilt := ranBoxes(b), ranBoxes(b)[which]
-			if len(spoilt.Memory.Pages) < len(given.Memory.Pages) {
-				t.Fatal("an answer without its memory", toldBox(spoilt))
-			}
-			spoil(spoilt.Memory.Pages)
-			for i, got := range append(kept, ranBoxes(b)...) {
-				if want := wants[i%len(wants)]; !likeBox(got, want) {
-					t.Errorf("answers share memory: %s, want %s", toldBox(got), toldBox(want))
-				}
-			}
-			if !slices.Equal(all, before) {
-				t.Fatal("an answer shares memory with the box")
-			}
+		if boxRight(given) && len(given.Memory.Pages) > 0 {
+			checkBoxesShareNothing(t, given, ranBoxes)
 		}
 	}
 }

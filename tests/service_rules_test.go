@@ -107,17 +107,23 @@ func serviceCalls() []call {
 // TestAlikeInputsHaveAlikeBoxes holds for P1.
 func TestAlikeInputsHaveAlikeBoxes(t *testing.T) { checkAlikeTexts(t, inputTexts, newBoxCalls) }
 
+// checkBoxStays makes calls of a box, and of one that is alike but lies elsewhere, and looks that both stay, and what stands behind their lists.
+func checkBoxStays(t *testing.T, b, want impl.Box, callsOf func(b impl.Box) []call) {
+	t.Helper()
+	copied := b
+	copied.Memory, copied.Input, copied.Output = elsewhere(b.Memory), withinLonger([]string{b.Input})[0], withinLonger([]string{b.Output})[0]
+	behind := copied.Memory.Pages[:len(b.Memory.Pages)+1]
+	checkAlike(t, callsOf(b), callsOf(copied))
+	if !likeBox(b, want) || !likeBox(copied, want) || behind[len(behind)-1] != page(2048, 2) {
+		t.Errorf("a box is changed: %s, want %s", toldBox(b), toldBox(want))
+	}
+}
+
 // TestBoxesStay holds for P1: no call changes a box, nor what stands behind its list of pages, and none asks where it lies.
 func TestBoxesStay(t *testing.T) {
 	boxes, wants := someBoxes(), someBoxes()
 	for i, b := range boxes {
-		copied := b
-		copied.Memory, copied.Input, copied.Output = elsewhere(b.Memory), withinLonger([]string{b.Input})[0], withinLonger([]string{b.Output})[0]
-		behind := copied.Memory.Pages[:len(b.Memory.Pages)+1]
-		checkAlike(t, boxCalls([]impl.Box{b}), boxCalls([]impl.Box{copied}))
-		if !likeBox(b, wants[i]) || !likeBox(copied, wants[i]) || behind[len(behind)-1] != page(2048, 2) {
-			t.Errorf("a box is changed: %s, want %s", toldBox(b), toldBox(wants[i]))
-		}
+		checkBoxStays(t, b, wants[i], func(b impl.Box) []call { return boxCalls([]impl.Box{b}) })
 	}
 }
 
@@ -147,32 +153,36 @@ func answeredBoxes(b impl.Box) []impl.Box {
 	return list
 }
 
-// TestBoxesShareNothing holds for P1 and rule 3: what is written into the pages of one answer shows neither in the box that was handed in nor in another answer,
-// of a box that is answered as it was, too.
-func TestBoxesShareNothing(t *testing.T) {
-	faulted := withBox(servable(), func(b *impl.Box) { b.Cpu.Regs[4] = 0 })
-	boxes := []impl.Box{servable(), withPQ(startBox(), -1, -1), withPQ(startBox(), 1024, 0), withPQ(startBox(), 512, 600), crowdedBox(32), withPQ(crowdedBox(32), 1, 0), faulted, withBox(servable(), func(b *impl.Box) { b.State = 2 }), withBox(servable(), func(b *impl.Box) { b.State, b.Fault = 3, 1 })}
-	for _, given := range boxes {
-		b := given
-		all := append(slices.Clone(given.Memory.Pages), page(40960, 3), page(41216, 3))
-		before := slices.Clone(all)
-		b.Memory.Pages = all[:len(given.Memory.Pages)]
-		wants := answeredBoxes(given)
-		for which := range wants {
-			kept, spoilt := answeredBoxes(b), answeredBoxes(b)[which]
-			if len(spoilt.Memory.Pages) < len(given.Memory.Pages) {
-				t.Fatal("an answer without its memory", toldBox(spoilt))
-			}
-			spoil(spoilt.Memory.Pages)
-			for i, got := range append(kept, answeredBoxes(b)...) {
-				if want := wants[i%len(wants)]; !likeBox(got, want) {
-					t.Errorf("answers share memory: %s, want %s", toldBox(got), toldBox(want))
-				}
-			}
-			if !slices.Equal(all, before) {
-				t.Fatal("an answer shares memory with the box")
+// checkBoxesShareNothing looks that what is written into the pages of one of the boxes that are answered of a box shows neither in that box nor in another answer.
+func checkBoxesShareNothing(t *testing.T, given impl.Box, answersOf func(b impl.Box) []impl.Box) {
+	t.Helper()
+	b := given
+	all := append(slices.Clone(given.Memory.Pages), page(65024, 3), page(65280, 3))
+	before := slices.Clone(all)
+	b.Memory.Pages = all[:len(given.Memory.Pages)]
+	wants := answersOf(given)
+	for which := range wants {
+		kept, spoilt := answersOf(b), answersOf(b)[which]
+		if len(spoilt.Memory.Pages) < len(given.Memory.Pages) {
+			t.Fatal("an answer without its memory", toldBox(spoilt))
+		}
+		spoil(spoilt.Memory.Pages)
+		for i, got := range append(kept, answersOf(b)...) {
+			if want := wants[i%len(wants)]; !likeBox(got, want) {
+				t.Errorf("answers share memory: %s, want %s", toldBox(got), toldBox(want))
 			}
 		}
+		if !slices.Equal(all, before) {
+			t.Fatal("an answer shares memory with the box")
+		}
+	}
+}
+
+// TestBoxesShareNothing holds for P1 and rule 3 of services, of a box that is answered as it was, too.
+func TestBoxesShareNothing(t *testing.T) {
+	faulted := withBox(servable(), func(b *impl.Box) { b.Cpu.Regs[4] = 0 })
+	for _, given := range []impl.Box{servable(), withPQ(startBox(), -1, -1), withPQ(startBox(), 1024, 0), withPQ(startBox(), 512, 600), crowdedBox(32), withPQ(crowdedBox(32), 1, 0), faulted, withBox(servable(), func(b *impl.Box) { b.State = 2 }), withBox(servable(), func(b *impl.Box) { b.State, b.Fault = 3, 1 })} {
+		checkBoxesShareNothing(t, given, answeredBoxes)
 	}
 }
 
